@@ -25,6 +25,24 @@ def is_ascending(parts):
     return all([parts[at] < parts[at + 1] for at in range(len(parts) - 1)])
 
 
+def in_order(words):
+    """The list of the words, or readings, in their order: fewer signs first, those with equally many as strings."""
+    # Sorting is stable, so those with equally many signs stay in their order as strings.
+    return sorted(sorted(words), key=len)
+
+
+def strings_of(letters, least, most):
+    """The list of all strings of least to most of the letters."""
+    equally_long = [""]
+    found = []
+    for size in range(most + 1):
+        if size > 0:
+            equally_long = [text + letter for text in equally_long for letter in letters]
+        if size >= least:
+            found.extend(equally_long)
+    return found
+
+
 def need_word(word, letters):
     """Raise NoWord for what is no word of these letters that may be passed."""
     if not is_text(word, letters, MOST_SIGNS):

@@ -1,7 +1,7 @@
 """Rules of tears and the readings that they leave."""
 
 from tearwords.errors import NoRule, NoStretch
-from tearwords.plain import SMALL_LETTERS, is_whole, need_word
+from tearwords.plain import SMALL_LETTERS, in_order, is_whole, need_word
 
 BOUNDS = {"faded": 3, "open": 3, "closed": 3, "doubled": 2}
 
@@ -56,9 +56,7 @@ def readings_of(rule, word):
     need_word(word, SMALL_LETTERS)
     kind, least, most = rule
     stretches = _stretches(least, most, len(word))
-    readings = sorted({_torn(kind, word, at, size) for at, size in stretches})
-    # Sorting is stable, so those with equally many signs stay in their order as strings.
-    return sorted(readings, key=len)
+    return in_order({_torn(kind, word, at, size): True for at, size in stretches})
 
 
 def _stretches(least, most, many):

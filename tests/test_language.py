@@ -54,7 +54,11 @@ class LanguageTest(unittest.TestCase):
         for name, node in nodes():
             self.assertNotIsInstance(node, ast.Import, name)
             if isinstance(node, ast.ImportFrom):
-                self.assertRegex(node.module, r"^tearwords\.[a-z]+$", name)
+                if node.module == "heapq":
+                    self.assertLessEqual({part.name for part in node.names}, {"heappush", "heappop"}, name)
+                else:
+                    self.assertRegex(node.module, r"^tearwords\.[a-z]+$", name)
+                self.assertTrue(all([part.asname is None for part in node.names]), name)
                 self.assertEqual(node.level, 0)
 
     def test_statements_and_names(self):
