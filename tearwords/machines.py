@@ -1,6 +1,6 @@
 """Machines and the words that are of them."""
 
-from tearwords.errors import NoMachine
+from tearwords.errors import NoMachine, NoWord
 from tearwords.plain import SMALL_LETTERS, is_ascending, is_text, is_whole, need_count, need_word
 
 MOST_LETTERS = 3
@@ -54,6 +54,13 @@ def has_word(machine, word):
     need_machine(machine)
     need_word(word, machine[0])
     return state_behind(machine, 0, word) in machine[2]
+
+
+def need_word_of(machine, word):
+    """Raise NoWord for what is no word of the machine that may be passed; machine is known to be one."""
+    need_word(word, machine[0])
+    if state_behind(machine, 0, word) not in machine[2]:
+        raise NoWord("the word is not of the machine")
 
 
 def state_behind(machine, state, word):

@@ -32,7 +32,20 @@ def told_by(hint, stretch):
 
 def least_pair(machine, rule, hint):
     """(word, other, reading) with as few letters as any two confused by a reading with the hint, or None."""
-    moves = _live_moves(machine, rule)
+    told = lightest_pair(machine, rule, hint, 1)
+    if told is None:
+        return None
+    word, other, reading = told
+    first, second = in_order([word, other])
+    return (first, second, reading)
+
+
+def lightest_pair(machine, rule, hint, weight):
+    """Two words confused by a reading with the hint, and the reading, or None.
+
+    None are lighter: letters of the first one weigh 1 each, those of the second one as told.
+    """
+    moves = live_moves(machine, rule)
     # A spot is a row and what the hint tells of the stretches of its two sides so far.
     queue = [(0, "", "", "", (FIRST_ROW, "", ""))]
     seen = set()
@@ -42,16 +55,15 @@ def least_pair(machine, rule, hint):
             continue
         seen.add(spot)
         if is_bad(machine, spot[0]):
-            first, second = in_order([word, other])
-            return (first, second, reading)
+            return (word, other, reading)
         for sign, letters, others, goal in _steps_with(moves, hint, spot):
             if goal not in seen:
-                more = many + len(letters) + len(others)
+                more = many + len(letters) + weight * len(others)
                 heappush(queue, (more, word + letters, other + others, reading + sign, goal))
     return None
 
 
-def _live_moves(machine, rule):
+def live_moves(machine, rule):
     """The moves of each side, without those that lead to where no word can end."""
     live = live_states(machine)
     moves = all_moves(machine, rule)

@@ -54,9 +54,21 @@ def readings_of(rule, word):
     """The list of all different readings of the word, fewer signs first, then as strings."""
     need_rule(rule)
     need_word(word, SMALL_LETTERS)
+    return in_order(all_readings(rule, word))
+
+
+def all_readings(rule, word):
+    """A dict with the readings of the word as its keys; rule and word are known to be some."""
     kind, least, most = rule
-    stretches = _stretches(least, most, len(word))
-    return in_order({_torn(kind, word, at, size): True for at, size in stretches})
+    return {_torn(kind, word, at, size): True for at, size in _stretches(least, most, len(word))}
+
+
+def first_shared(readings, others):
+    """The first of the readings that is among the others, both being dicts of them, or None."""
+    for reading in readings:
+        if reading in others:
+            return reading
+    return None
 
 
 def _stretches(least, most, many):

@@ -1,8 +1,9 @@
-"""Slow but plain answers for readings, pairs, moves, books and hints, and machines to try them with."""
+"""Slow but plain answers for readings, pairs, moves, books, hints and sums, and machines to try them with."""
 
-from itertools import product
+from functools import cache
+from itertools import combinations, product
 
-from tests.samples import is_number_to, left_of, strings_to
+from tests.samples import all_left_of, is_number_to, left_of, strings_to
 
 BOUND_OF = {"faded": 3, "open": 3, "closed": 3, "doubled": 2}
 START = ("whole", 0, "")
@@ -210,3 +211,42 @@ def plainly_book(machine, rule, thing):
     return FIRST in rows and all([
         not plainly_bad(machine, row) and set(plain_steps(machine, rule, row)) <= rows for row in rows
     ])
+
+
+@cache
+def left_set(rule, word):
+    """All readings of the word."""
+    return frozenset(all_left_of(rule, word))
+
+
+def pairs_among(rule, words):
+    """All (word, other) of these words, the first in the order ahead, that are confused, in their order."""
+    words = sorted(words, key=lambda word: (len(word), word))
+    return [(word, other) for word, other in combinations(words, 2) if left_set(rule, word) & left_set(rule, other)]
+
+
+def plain_difference(letters, word, other):
+    return tuple([word.count(letter) - other.count(letter) for letter in letters])
+
+
+def differences_among(machine, rule, words):
+    """The ascending list of the differences of all pairs of these words that are confused."""
+    found = set()
+    for word, other in pairs_among(rule, words):
+        told = plain_difference(machine[0], word, other)
+        first = [number for number in told if number != 0][:1]
+        found.add(told if not first or first[0] > 0 else plain_difference(machine[0], other, word))
+    return sorted(found)
+
+
+def short_machines(letters, many, number, seed=1):
+    """Machines whose letters lead on to later states only, so that their words have fewer letters than it has states."""
+    found = []
+    for _, states, ends in some_machines(letters, many, number, seed):
+        rows = []
+        for at, state in enumerate(states):
+            later = list(range(at + 1, many)) or [None]
+            rows.append(tuple([None if goal is None else later[goal % len(later)] for goal in state]))
+        # With few words there would be few that are confused: every other machine lets all its states end.
+        found.append((letters, tuple(rows), ends if len(found) % 2 else tuple(range(many))))
+    return found

@@ -8,7 +8,7 @@ import unittest
 
 FOLDER = os.path.join(os.path.dirname(os.path.dirname(os.path.abspath(__file__))), "tearwords")
 ALLOWED = set("""len range enumerate zip min max sum abs sorted reversed int str bool list tuple dict set isinstance
-    ord repr any all divmod pow ValueError TypeError KeyError IndexError LookupError Exception iter next""".split())
+    ord repr any all divmod pow property ValueError TypeError KeyError IndexError LookupError Exception iter next""".split())
 BARRED = re.compile(r"\b(type|typing|enum|Enum|Generic|Protocol|ABC|namedtuple|abstractmethod|mro|input)\b")
 STATEMENTS = (
     ast.Assign, ast.AugAssign, ast.If, ast.While, ast.For, ast.Return, ast.Break, ast.Continue, ast.Pass, ast.Raise,
@@ -73,7 +73,34 @@ class LanguageTest(unittest.TestCase):
     def test_words(self):
         for name, text in sources():
             self.assertIsNone(BARRED.search(text), name)
-            self.assertNotIn("%", text, name)
+        for name, node in nodes():
+            if isinstance(node, ast.Constant) and isinstance(node.value, str):
+                self.assertNotIn("%", node.value, name)
+
+    def test_ends_of_stretches(self):
+        exits = [node for _, node in nodes() if isinstance(node, ast.FunctionDef) and node.name == "__exit__"]
+        self.assertEqual(len(exits), 1)
+        for row in exits[0].body:
+            self.assertIsInstance(row, ast.Assign)
+            self.assertIsInstance(row.value, ast.Attribute)
+            self.assertTrue(all([isinstance(target, ast.Attribute) for target in row.targets]))
+
+    def test_double_underscores(self):
+        allowed = {"__init__", "__len__", "__enter__", "__exit__"}
+        for name, node in nodes():
+            for told in (getattr(node, "name", None), getattr(node, "id", None), getattr(node, "attr", None)):
+                if isinstance(told, str) and told.startswith("__"):
+                    self.assertIn(told, allowed, name)
+
+    def test_properties_are_assigned_by_no_name(self):
+        properties = {
+            node.name for _, node in nodes() if isinstance(node, ast.FunctionDef)
+            and any([isinstance(some, ast.Name) and some.id == "property" for some in node.decorator_list])
+        }
+        self.assertEqual(properties, {"rule"})
+        for name, node in nodes():
+            if isinstance(node, ast.Attribute) and isinstance(node.ctx, ast.Store):
+                self.assertNotIn(node.attr, properties, name)
 
 
 if __name__ == "__main__":
